@@ -42,6 +42,42 @@ def needs(t):
     return [8, t]
 
 
+def could(i, t):
+    return [9, i, t]
+
+
+def until(i, w, t):
+    return [10, i, w, t]
+
+
+def eats(i, w, t):
+    return [11, i, w, t]
+
+
+def hatches(i, t):
+    return [12, i, t]
+
+
+def ahead(n, t):
+    return [13, n, t]
+
+
+def lasts(f, t):
+    return [14, f, t]
+
+
+def best(i):
+    return [15, i]
+
+
+def sums():
+    return [16]
+
+
+def state():
+    return [17]
+
+
 def in_one_list(calls):
     return [number for call in calls for number in call]
 
@@ -73,14 +109,19 @@ def last(*calls):
 
 def everything(lots):
     """Calls that show all there is to see of so many lots, and that there are no more."""
-    return [look(i) for i in range(lots + 1)] + [needs(t) for t in range(26)]
+    return [look(i) for i in range(lots + 1)] + [needs(t) for t in range(26)] + [sums(), state()]
 
 
-def same_behind(case, ahead, refused, number, lots):
-    """Asserts that a call is refused by that number, and that all is as it was ahead of it."""
+def unchanged_by(case, before, call, lots):
+    """Asserts that all is behind a call as it was ahead of it: what the call is answered."""
     shown = everything(lots)
-    before = answered(*ahead, *shown)[len(ahead):]
-    rows = answered(*ahead, refused, *shown)
-    case.assertEqual(rows[len(ahead)], [number], refused)
-    case.assertEqual(rows[len(ahead) + 1:], before, refused)
-    case.assertEqual(before[lots], [-2])
+    plain = answered(*before, *shown)[len(before):]
+    rows = answered(*before, call, *shown)
+    case.assertEqual(rows[len(before) + 1:], plain, call)
+    case.assertEqual(plain[lots], [-2])
+    return rows[len(before)]
+
+
+def same_behind(case, before, refused, number, lots):
+    """Asserts that a call is refused by that number, and that all is as it was ahead of it."""
+    case.assertEqual(unchanged_by(case, before, refused, lots), [number], refused)

@@ -2,8 +2,8 @@
 
 import unittest
 
-from warmthgrown.farm import Farm, answer_call
-from tests.calls import LARGEST, answered, begin, day, die, eggs, join, last, look, needs, same_behind, split, stock
+from tests.calls import (LARGEST, ahead, answered, begin, best, could, day, die, eats, eggs, hatches, join, last, lasts,
+                         look, needs, same_behind, split, state, stock, sums, until)
 
 
 class BeginEdges(unittest.TestCase):
@@ -53,7 +53,9 @@ class NotBegun(unittest.TestCase):
     # Wrong numbers too: -61 is told ahead of all other refusals.
     others = [eggs(5), eggs(0), stock(5, 5), stock(0, 0), day(10, 5), day(26, 5), die(0, 0), split(0, 0),
               join(0, 0), join(0, 1), look(0), needs(10), needs(LARGEST)]
-    later = [[9, 0, 0], [10, 0, 0, 0], [11, 0, 0, 0], [12, 0, 0], [13, 0, 0], [14, 0, 0], [15, 0], [16], [17]]
+    later = [could(0, 0), could(0, 26), until(0, 0, 0), until(0, 1, 26), eats(0, 0, 0), eats(0, 1, 26), hatches(0, 0),
+             hatches(0, 26), ahead(0, 0), ahead(1001, 26), lasts(0, 0), lasts(0, 26), best(0), best(LARGEST), sums(),
+             state()]
     wrong_begins = [begin(hatch=0), begin(first=0), begin(conv=49), begin(pace=[]), begin(pace=[1] * 25),
                     begin(pace=[1] * 30), begin(pace=[1] * 25 + [501])]
 
@@ -97,31 +99,17 @@ class BeginAgain(unittest.TestCase):
         self.assertEqual(rows[4:], [[7461], [0, 50036], [1, 4, 36, 9, 7]])
 
     def test_a_refused_one_changes_nothing(self):
-        ahead = [begin(), stock(1000, 50), eggs(30), day(9, 100)]
+        before = [begin(), stock(1000, 50), eggs(30), day(9, 100)]
         for wrong in (begin(0, 9, 300, [1] * 26), begin(7, 0, 300, [1] * 26), begin(7, 9, 301, [1] * 26),
                       begin(7, 9, 300, [1] * 25), begin(7, 9, 300, [1] * 27), begin(7, 9, 300, [1] * 25 + [501])):
-            same_behind(self, ahead, wrong, -22, 2)
+            same_behind(self, before, wrong, -22, 2)
             # What hatch and first are is seen only by a lot that hatches.
-            hatched = answered(*ahead, wrong, day(25, 0), day(25, 0), day(25, 0), look(1), day(16, 0), look(1))
+            hatched = answered(*before, wrong, day(25, 0), day(25, 0), day(25, 0), look(1), day(16, 0), look(1))
             self.assertEqual(hatched[-3:], [[0, 30, 0, 0, 84], [0, 50083 + 60], [1, 30, 60, 2, 100]])
 
-
-class DayNumber(unittest.TestCase):
-    def told_day(self, *calls):
-        farm = Farm()
-        for call in calls:
-            answer_call(farm, call[0], call[1:])
-        return farm.today
-
-    def test_days_are_counted_from_0(self):
-        self.assertEqual(self.told_day(begin()), 0)
-        self.assertEqual(self.told_day(begin(), day(0, 0), day(25, 7)), 2)
-
-    def test_begin_is_day_0(self):
-        self.assertEqual(self.told_day(begin(), day(3, 0), begin()), 0)
-
-    def test_a_refusal_leaves_the_day(self):
-        self.assertEqual(self.told_day(begin(), day(3, 0), day(26, 0), begin(hatch=0)), 1)
+    def test_day_0_and_sums_of_nothing(self):
+        rows = answered(begin(), stock(10, 100), eggs(5), day(10, 50), day(3, 0), die(0, 4), begin(), sums(), state())
+        self.assertEqual(rows[7:], [[0, 0, 0, 0, 0], [0, 0, 0]])
 
 
 if __name__ == "__main__":

@@ -48,6 +48,10 @@ def names_bound(node):
     return []
 
 
+def names_at_top(tree):
+    return [name for node in tree.body for part in ([node] + getattr(node, "targets", [])) for name in names_bound(part)]
+
+
 class Files(unittest.TestCase):
     def test_nothing_else_lies_in_the_package(self):
         self.assertTrue((PACKAGE / "__init__.py").is_file())
@@ -124,14 +128,47 @@ class Code(unittest.TestCase):
                     self.assertEqual(node.level, 0, path)
                     self.assertTrue(node.module.startswith("warmthgrown."), path)
 
+    def test_no_two_files_draw_from_one_another(self):
+        drawn = {"warmthgrown." + path.stem: [node.module for node in tree.body if isinstance(node, ast.ImportFrom)]
+                 for path, tree in trees()}
+        # Files from which nothing more is drawn are taken away till none is left.
+        while drawn:
+            ends = [name for name in drawn if not any(other in drawn for other in drawn[name])]
+            self.assertNotEqual(ends, [], drawn)
+            drawn = {name: drawn[name] for name in drawn if name not in ends}
+
+    def test_names_are_drawn_from_the_file_that_defines_them(self):
+        for path, tree in trees():
+            for node in tree.body:
+                if isinstance(node, ast.ImportFrom):
+                    source = ast.parse((PACKAGE / (node.module.split(".")[1] + ".py")).read_text(encoding="ascii"))
+                    for drawn in node.names:
+                        self.assertIsNone(drawn.asname, path)
+                        self.assertIn(drawn.name, names_at_top(source), path)
+
+    def test_no_local_is_called_like_an_import_or_a_class(self):
+        for path, tree in trees():
+            taken = {drawn.name for node in tree.body if isinstance(node, ast.ImportFrom) for drawn in node.names}
+            taken |= {node.name for node in tree.body if isinstance(node, ast.ClassDef)}
+            inner = [name for top in tree.body if isinstance(top, ast.FunctionDef) for node in ast.walk(top)
+                     for name in names_bound(node)]
+            self.assertEqual(taken & set(inner), set(), path)
+
+    def test_is_stands_beside_none_true_and_false(self):
+        for path, node in self.each_node():
+            if isinstance(node, ast.Compare):
+                for sign, right in zip(node.ops, node.comparators):
+                    if isinstance(sign, (ast.Is, ast.IsNot)):
+                        plain = isinstance(right, ast.Constant) and isinstance(right.value, (bool, type(None)))
+                        self.assertTrue(plain, (path.name, node.lineno))
+
     def test_answers_is_written_in_farm_alone(self):
         found = [path.name for path, tree in trees() for node in tree.body if "answers" in names_bound(node)]
         self.assertEqual(found, ["farm.py"])
 
     def test_a_name_is_bound_once_at_a_top(self):
         for path, tree in trees():
-            bound = [name for node in tree.body for part in ([node] + getattr(node, "targets", []))
-                     for name in names_bound(part)]
+            bound = names_at_top(tree)
             self.assertEqual(sorted(bound), sorted(set(bound)), path)
 
 

@@ -1,12 +1,17 @@
 """The calls on one farm, and the list of numbers that they come and are answered in."""
 
-from warmthgrown.lots import Lot, could_grow, each_weighs, eat_and_grow, gather_warmth, needed_feed, take_part
+from warmthgrown.days import (
+    MOST_DAYS, after_days, all_mass, days_of_feed, needs_of_lots, pass_day, till_hatched, till_weight,
+)
+from warmthgrown.lots import Lot, could_grow, each_weighs, needed_feed, take_part
 
 NO_LOT = -2
+HATCHED = -6
 TOO_FEW = -12
 WRONG = -22
 NO_ROOM = -28
 UNLIKE = -33
+NEVER = -33
 NOT_BEGUN = -61
 
 BEGIN = 0
@@ -16,7 +21,7 @@ WARMEST = 25
 
 
 class Farm:
-    """What was told at the beginning, the lots, and which day it is."""
+    """What was told at the beginning, the lots, which day it is, and the sums since day 0."""
 
     def __init__(self):
         self.begun = False
@@ -26,6 +31,10 @@ class Farm:
         self.pace = []
         self.lots = []
         self.today = 0
+        self.fed = 0
+        self.eaten = 0
+        self.died = 0
+        self.died_mass = 0
 
 
 def within(number, least, most):
@@ -46,35 +55,13 @@ def add_lot(farm, lot):
     return len(farm.lots) - 1
 
 
-def all_mass(farm):
-    return sum([lot.mass for lot in farm.lots])
-
-
-def needs_of_lots(farm, warmth):
-    """What each lot needs in a day of that warmth, lot by lot."""
-    pace = farm.pace[warmth]
-    return [needed_feed(could_grow(lot, pace), farm.conv) for lot in farm.lots]
-
-
-def shares_of_feed(feed, wanted):
-    """What each lot gets of the feed, by what it needs."""
-    need = sum(wanted)
-    if need <= feed:
-        return wanted
-    return [feed * want // need for want in wanted]
-
-
-def pass_day(farm, warmth, feed):
-    """Lets a day go by: how much is eaten."""
-    # All shares are told before a lot changes: they go by the morning's needs.
-    shares = shares_of_feed(feed, needs_of_lots(farm, warmth))
-    for lot, share in zip(farm.lots, shares):
-        if lot.hatched:
-            eat_and_grow(lot, share, farm.pace[warmth], farm.conv)
-        else:
-            gather_warmth(lot, warmth, farm.hatch, farm.first)
-    farm.today = farm.today + 1
-    return sum(shares)
+def refusal_of(farm, i, warmth):
+    """The refusal that is due for a lot and a warmth, or 0."""
+    if lacks_lot(farm, i):
+        return NO_LOT
+    if warmth > WARMEST:
+        return WRONG
+    return 0
 
 
 def is_pace(pace):
@@ -98,6 +85,10 @@ def call_begin(farm, numbers):
     farm.pace = pace
     farm.lots = []
     farm.today = 0
+    farm.fed = 0
+    farm.eaten = 0
+    farm.died = 0
+    farm.died_mass = 0
     return [0]
 
 
@@ -126,7 +117,7 @@ def call_day(farm, numbers):
     if warmth > WARMEST:
         return [WRONG]
     eaten = pass_day(farm, warmth, feed)
-    return [eaten, all_mass(farm)]
+    return [eaten, all_mass(farm.lots)]
 
 
 def call_die(farm, numbers):
@@ -136,7 +127,9 @@ def call_die(farm, numbers):
     lot = farm.lots[numbers[0]]
     if lot.many < many:
         return [TOO_FEW]
-    take_part(lot, many)
+    gone = take_part(lot, many)
+    farm.died = farm.died + gone.many
+    farm.died_mass = farm.died_mass + gone.mass
     return [lot.many]
 
 
@@ -182,12 +175,90 @@ def call_needs(farm, numbers):
     warmth = numbers[0]
     if warmth > WARMEST:
         return [WRONG]
-    return [sum(needs_of_lots(farm, warmth))]
+    return [sum(needs_of_lots(farm, farm.lots, warmth))]
+
+
+def call_could(farm, numbers):
+    warmth = numbers[1]
+    refusal = refusal_of(farm, numbers[0], warmth)
+    if refusal < 0:
+        return [refusal]
+    growth = could_grow(farm.lots[numbers[0]], farm.pace[warmth])
+    return [growth, needed_feed(growth, farm.conv)]
+
+
+def call_until(farm, numbers):
+    refusal = refusal_of(farm, numbers[0], numbers[2])
+    if refusal < 0:
+        return [refusal]
+    till = till_weight(farm, numbers[0], numbers[1], numbers[2])
+    if till is None:
+        return [NEVER]
+    return [till[0]]
+
+
+def call_eats(farm, numbers):
+    refusal = refusal_of(farm, numbers[0], numbers[2])
+    if refusal < 0:
+        return [refusal]
+    till = till_weight(farm, numbers[0], numbers[1], numbers[2])
+    if till is None:
+        return [NEVER]
+    return [till[1]]
+
+
+def call_hatches(farm, numbers):
+    warmth = numbers[1]
+    refusal = refusal_of(farm, numbers[0], warmth)
+    if refusal < 0:
+        return [refusal]
+    lot = farm.lots[numbers[0]]
+    if lot.hatched:
+        return [HATCHED]
+    days = till_hatched(farm, lot, warmth)
+    if days is None:
+        return [NEVER]
+    return [days]
+
+
+def call_ahead(farm, numbers):
+    days = numbers[0]
+    warmth = numbers[1]
+    if days > MOST_DAYS or warmth > WARMEST:
+        return [WRONG]
+    return list(after_days(farm, days, warmth))
+
+
+def call_lasts(farm, numbers):
+    feed = numbers[0]
+    warmth = numbers[1]
+    if warmth > WARMEST:
+        return [WRONG]
+    return [days_of_feed(farm, feed, warmth)]
+
+
+def call_best(farm, numbers):
+    if lacks_lot(farm, numbers[0]):
+        return [NO_LOT]
+    lot = farm.lots[numbers[0]]
+    growths = [could_grow(lot, pace) for pace in farm.pace]
+    most = max(growths)
+    # The first warmth that is found is the least.
+    return [growths.index(most), most]
+
+
+def call_sums(farm, numbers):
+    return [farm.fed, farm.eaten, farm.died, farm.died_mass, all_mass(farm.lots)]
+
+
+def call_state(farm, numbers):
+    return [farm.today, len(farm.lots), sum([lot.many for lot in farm.lots])]
 
 
 # Each call by its number.
 CALLS = (
     call_begin, call_eggs, call_stock, call_day, call_die, call_split, call_join, call_look, call_needs,
+    call_could, call_until, call_eats, call_hatches, call_ahead, call_lasts, call_best, call_sums, call_state,
 )
 
 # How many numbers stand behind a call's own, by that number; begin's pace comes on top.

@@ -11,6 +11,10 @@ class Lot:
         self.degrees = degrees
 
 
+def copy_of_lot(lot):
+    return Lot(lot.hatched, lot.many, lot.mass, lot.degrees)
+
+
 def each_weighs(lot):
     """What each weighs on the average, rounded down."""
     if lot.many == 0:
